@@ -1,0 +1,1 @@
+"""Crcgate: rows with check signs, by remainders over yes and no."""
