@@ -6,6 +6,8 @@ number's bit at p. So the tests reckon in another way than the program does.
 
 import random
 
+from crcgate.errors import GateError
+
 
 def number_of(row):
     """The whole number whose bits are the signs of the row."""
@@ -36,6 +38,33 @@ def rest_of(number, divisor):
     return number
 
 
+def reach_by_words(divisor):
+    """The reach, found step by step as point 5 words it."""
+    by = number_of(divisor)
+    n = 1
+    while rest_of(2 ** n + 1, by) != 0:
+        n += 1
+    return n
+
+
+def rest_of_yes_at(power, divisor):
+    """The rest of the number with one yes, at this power, also a great one."""
+    rest = rest_of(1, divisor)
+    for bit in bin(power)[2:]:
+        rest = rest_of(product_of(rest, rest) << int(bit), divisor)
+    return rest
+
+
+def rest_by_words(row, divisor):
+    """The rest of a row by a divisor, a row too."""
+    return row_of(rest_of(number_of(row), number_of(divisor)), len(divisor) - 1)
+
+
+def with_turned(row, places):
+    """The row with the signs at these places turned."""
+    return [1 - sign if place in places else sign for place, sign in enumerate(row)]
+
+
 def some_row(seed, length):
     """A row that looks like chance, the same on each run."""
     chance = random.Random(seed)
@@ -63,6 +92,33 @@ def wrong_rows():
             for place in range(len(row) + 1):
                 wrong.append(row[:place] + [member] + row[place:])
     return wrong
+
+
+def divisors_to(length):
+    """All gate's divisors of 2 to so many signs."""
+    return [divisor for many in range(2, length + 1) for divisor in gate_divisors(many)]
+
+
+def long_divisors():
+    """Some gate's divisors of 9 to 13 signs, with small and great reaches."""
+    found = [
+        [1, 0, 0, 0, 0, 0, 0, 1, 0, 0, 1], [1, 0, 0, 0, 0, 0, 1, 0, 1, 0, 0, 1, 1],
+    ]
+    for length in range(9, 14):
+        found.append([1] + [0] * (length - 2) + [1])
+        found.append([1] * length)
+        for seed in range(2):
+            found.append([1] + some_row(50 * length + seed, length - 2) + [1])
+    return found
+
+
+def refused(case, kind, function, *handed):
+    """Demand a refusal of just this kind."""
+    with case.assertRaises(kind) as caught:
+        function(*handed)
+    case.assertIs(type(caught.exception), kind)
+    case.assertIsInstance(caught.exception, GateError)
+    case.assertIsInstance(caught.exception, ValueError)
 
 
 def check_signs(case, row):

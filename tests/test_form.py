@@ -1,11 +1,17 @@
 """The rules of the form that a test can see: files, characters, sizes, imports."""
 
 import ast
+import builtins
 import os
 import unittest
 
 TOP = os.path.dirname(os.path.dirname(os.path.abspath(__file__)))
 PACKAGE = os.path.join(TOP, "crcgate")
+# Those of rule L8 that a function of the package may call.
+ALLOWED = (
+    "len range enumerate zip min max sum abs sorted reversed int str bool list tuple dict set"
+    " isinstance ord repr any all divmod"
+).split()
 
 
 def sources():
@@ -42,8 +48,11 @@ class TestForm(unittest.TestCase):
         defined = {}
         for name, text in sources():
             for node in ast.parse(text).body:
+                here = defined.setdefault("crcgate." + name[:-3], [])
                 if isinstance(node, (ast.FunctionDef, ast.ClassDef)):
-                    defined.setdefault("crcgate." + name[:-3], []).append(node.name)
+                    here.append(node.name)
+                if isinstance(node, ast.Assign):
+                    here.extend(target.id for target in node.targets)
         for name, text in sources():
             for node in ast.walk(ast.parse(text)):
                 self.assertNotIsInstance(node, ast.Import, name)
@@ -58,3 +67,40 @@ class TestForm(unittest.TestCase):
                 self.assertNotIsInstance(node, ast.Div, name)
                 if isinstance(node, ast.Constant):
                     self.assertNotIsInstance(node.value, (float, complex), name)
+
+    def test_no_builtins_but_those_allowed(self):
+        barred = [name for name in dir(builtins) if name not in ALLOWED and not name[0].isupper()]
+        for name, text in sources():
+            for node in ast.walk(ast.parse(text)):
+                if isinstance(node, ast.Name):
+                    self.assertNotIn(node.id, barred, (name, node.lineno))
+                if isinstance(node, (ast.arg, ast.FunctionDef)):
+                    named = node.arg if isinstance(node, ast.arg) else node.name
+                    self.assertNotIn(named, dir(builtins), (name, node.lineno))
+
+    def test_names_that_are_assigned_are_none_of_pythons_own_and_no_imports(self):
+        for name, text in sources():
+            tree = ast.parse(text)
+            taken = dir(builtins) + [node.name for node in tree.body if isinstance(node, ast.ClassDef)]
+            taken += [a.name for node in tree.body if isinstance(node, ast.ImportFrom) for a in node.names]
+            for node in ast.walk(tree):
+                if isinstance(node, ast.arg):
+                    self.assertNotIn(node.arg, taken, (name, node.lineno))
+                if isinstance(node, ast.Name) and isinstance(node.ctx, ast.Store):
+                    self.assertNotIn(node.id, taken, (name, node.lineno))
+
+    def test_no_sign_37_in_a_string(self):
+        for name, text in sources():
+            for node in ast.walk(ast.parse(text)):
+                if isinstance(node, ast.Constant) and isinstance(node.value, str):
+                    self.assertNotIn(chr(37), node.value, (name, node.lineno))
+
+    def test_no_name_is_a_method_and_an_attribute_in_one_class(self):
+        for name, text in sources():
+            for made in ast.walk(ast.parse(text)):
+                if isinstance(made, ast.ClassDef):
+                    methods = [node.name for node in made.body if isinstance(node, ast.FunctionDef)]
+                    self.assertEqual(len(methods), len(set(methods)), (name, made.name))
+                    for node in ast.walk(made):
+                        if isinstance(node, ast.Attribute) and isinstance(node.ctx, ast.Store):
+                            self.assertNotIn(node.attr, methods, (name, node.lineno))

@@ -4,16 +4,7 @@ import unittest
 
 from crcgate.errors import NoDivisor, NoRow
 from crcgate.reaches import reach
-from tests.helping import gate_divisors, number_of, rest_of, some_row, wrong_rows
-
-
-def reach_by_words(divisor):
-    """The reach, found step by step as the point words it."""
-    by = number_of(divisor)
-    n = 1
-    while rest_of(2 ** n + 1, by) != 0:
-        n += 1
-    return n
+from tests.helping import gate_divisors, reach_by_words, some_row, wrong_rows
 
 
 class TestReach(unittest.TestCase):
